@@ -1,0 +1,1 @@
+"""Passproven: compilers as data, and a judge that says whether a pass keeps every run."""
