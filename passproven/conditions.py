@@ -74,20 +74,26 @@ def _has_entry(mapping, name):
     return name[1] in [word for word, _ in mapping[1]]
 
 
-def words_of(condition):
-    """The words of the metavariables of a condition as they stand in it, also those that stand there twice."""
+def operands_of(condition):
+    """The list of the operands of a condition as they stand in it, a metavariable for each word that stands alone."""
     head, one = condition[0], condition[1]
     if head == "not":
-        return words_of(one)
+        return operands_of(one)
     if head in _HEADS:
-        return [one]
+        return [("meta", one)]
     if head == "has":
-        return [one] + _operand_words(condition[2])
-    return _operand_words(one) + _operand_words(condition[2])
+        return [("meta", one), condition[2]]
+    return [one, condition[2]]
 
 
-def _operand_words(operand):
-    return [operand[1]] if operand[0] in ("meta", "sum") else []
+def unknown_operands(condition):
+    """The list of those operands of a condition in which a metavariable stands."""
+    return [operand for operand in operands_of(condition) if operand[0] in ("meta", "sum")]
+
+
+def words_of(condition):
+    """The words of the metavariables of a condition as they stand in it, also those that stand there twice."""
+    return [operand[1] for operand in unknown_operands(condition)]
 
 
 def read_condition(text):

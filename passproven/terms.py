@@ -54,6 +54,17 @@ def rebuild(term, parts):
     return term
 
 
+def with_part(term, way, part):
+    """The term with another part at the end of a way, the tuple of the places of arguments that one goes through."""
+    nodes = []
+    for place in way:
+        nodes.append(term)
+        term = term[2][place]
+    for node, place in list(zip(nodes, way))[::-1]:
+        part = ("node", node[1], node[2][:place] + (part,) + node[2][place + 1:])
+    return part
+
+
 def assembled(heads):
     """The term of a list of pairs, in the order of the text: a part, and how many direct parts follow it.
 
