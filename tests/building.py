@@ -1,4 +1,4 @@
-"""Short ways to write terms in tests."""
+"""Short ways to write terms, and to look at knowledge, in tests."""
 
 
 def num(n):
@@ -36,3 +36,13 @@ def wide(entries):
     """A map with so many entries, hence with one part more."""
     words = sorted(f"w{n}" for n in range(entries))
     return ("map", tuple((word, ("int", 0)) for word in words))
+
+
+def unknown(u):
+    return ("unknown", u)
+
+
+def told(known):
+    """All attributes of knowledge, copied."""
+    got = {base: list(rows) for base, rows in known.got.items()}
+    return (dict(known.sorts), dict(known.worths), known.conditions, got, known.many)
