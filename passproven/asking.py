@@ -1,5 +1,6 @@
 """Questions about unknowns: what is known is told, what is not known is asked; and the answers to questions."""
 
+from passproven.cases import ZERO
 from passproven.errors import PassError
 from passproven.knowledge import operand, word
 from passproven.solving import denied
@@ -21,6 +22,7 @@ class Undecided(PassError):
 
 def order(known, one, other):
     """The order of two sums: less, equal or greater."""
+    known = known.prepared()
     _, parts, number = _difference(known, one, other)
     if not parts:
         return _order_of_number(number)
@@ -56,27 +58,13 @@ def _difference(known, one, other):
 
 def _anchored(known, u):
     """An unknown integer as the first integer from which its distance is certain, and this distance."""
-    linked = known.linked(u)
-    solution = known.solution() if linked else None
-    if solution is None:
-        return unknown_integer(u)
-    # If a distance is certain, it is that of the solution.
-    worth = solution[word(u)][1]
-    for anchor in _anchors(u, linked, solution):
-        shifted = added(anchor, integer(worth - _worth_of(anchor, solution)), 1)
-        if not known.allows(denied(("equal", ("meta", word(u)), operand(shifted)))):
-            return shifted
+    distances = known.certain(u)
+    if ZERO in distances:
+        return integer(distances[ZERO])
+    for other in range(u):
+        if word(other) in distances:
+            return added(unknown_integer(other), integer(distances[word(other)]), 1)
     return unknown_integer(u)
-
-
-def _anchors(u, linked, solution):
-    """The list of the integers from which the distance of an unknown may be certain: 0 and smaller unknowns."""
-    return [integer(0)] + [unknown_integer(other) for other in range(u)
-                           if word(other) in linked and solution[word(other)][0] == "int"]
-
-
-def _worth_of(anchor, solution):
-    return solution[word(anchor[1][0][0])][1] if anchor[1] else 0
 
 
 def _conditions_of_order(question):
@@ -96,6 +84,7 @@ def is_same(known, one, other):
 
 def _known_or_asked(known, question):
     """Whether the condition is true that a question is about."""
+    known = known.prepared()
     condition = _condition_of(question)
     if not known.allows(condition):
         return False
@@ -147,7 +136,8 @@ def answers(language, known, question):
     else:
         condition = _condition_of(question)
         told = [("yes", condition), ("no", denied(condition))]
-    return [(answer, known.with_condition(condition)) for answer, condition in told if known.allows(condition)]
+    seen = known.prepared()
+    return [(answer, known.with_condition(condition)) for answer, condition in told if seen.allows(condition)]
 
 
 def _answers_of_value(known, u):
@@ -158,11 +148,12 @@ def _answers_of_value(known, u):
 
 def _answers_of_shape(language, known, u):
     worth = known.worths.get(u)
+    seen = known.prepared()
     listed = []
     if worth is not False:
-        listed.extend([(sort, known.with_sort(u, sort)) for sort in _SORTS if known.allows((sort, word(u)))])
+        listed.extend([(sort, known.with_sort(u, sort)) for sort in _SORTS if seen.allows((sort, word(u)))])
     # Conditions that are known of an unknown can say that it is neither a node nor a constant.
-    if not known.allows_node(u):
+    if not seen.allows_node(u):
         return listed
     for constructor in language.constructors:
         listed.extend(_answers_of_constructor(known, u, constructor))

@@ -37,6 +37,15 @@ class Choice:
             self.back(mark)
         return blame
 
+    def allows(self, cases):
+        """Whether one of these cases could be taken, too."""
+        mark = self.mark()
+        for case in cases:
+            if self.take(case, 0) is None:
+                self.back(mark)
+                return True
+        return False
+
     def _taken(self, case, reasons):
         sorts, facts = case
         for word, sort in sorts:
@@ -47,27 +56,41 @@ class Choice:
             elif self.sorts[word] != sort:
                 return self._reasons[word] | reasons
         for fact in facts:
-            blame = self._added(fact, reasons)
+            blame = self._fact_taken(fact, reasons)
             if blame is not None:
                 return blame
         return None
 
-    def _added(self, fact, reasons):
+    def _fact_taken(self, fact, reasons):
         if fact[0] == "most":
-            return self.distances.add(fact[1], fact[2], fact[3], reasons)
-        return self.sameness.add(fact, reasons)
+            return self.distances.limit(fact[1], fact[2], fact[3], reasons)
+        return self.sameness.tell(fact, reasons)
 
 
 def first_choice(conditions, no_nodes):
     """The first possible choice, in which none of some metavariables is a node; or None."""
     rows = _possible_cases(conditions, no_nodes)
-    if rows is None:
+    choice = None if rows is None else _begun(rows)
+    if choice is None or not _is_chosen(choice, [cases for cases in rows if len(cases) > 1]):
         return None
+    return choice
+
+
+def only_choice(conditions):
+    """The only choice, if it is possible, and if no condition has several cases; otherwise None."""
+    rows = _possible_cases(conditions, ())
+    if rows is None or any([len(cases) > 1 for cases in rows]):
+        return None
+    return _begun(rows)
+
+
+def _begun(rows):
+    """The choice of all cases that are the only ones of their rows, or None if it is not possible."""
     choice = Choice()
     for cases in rows:
         if len(cases) == 1 and choice.take(cases[0], 0) is not None:
             return None
-    return choice if _is_chosen(choice, [cases for cases in rows if len(cases) > 1]) else None
+    return choice
 
 
 def _is_chosen(choice, rows):

@@ -14,8 +14,8 @@ class Distances:
         self._below = {}
         self._added = []
 
-    def add(self, one, other, most, reasons):
-        """Adds that one is at most so much greater than other: None, or the reasons why it is not possible."""
+    def limit(self, one, other, most, reasons):
+        """Tells that one is at most so much greater than other: None, or the reasons why it is not possible."""
         if one == other:
             return None if most >= 0 else reasons
         blame = self._repaired(one, other, most, reasons)
@@ -62,6 +62,13 @@ class Distances:
                     waiting.append(target)
         return None
 
+    def certain(self, word):
+        """A dict from the integers from which the distance of one is certain, by the bounds, to this distance."""
+        above, below = {word: 0}, {word: 0}
+        _spread(above, self._above, word)
+        _spread(below, self._below, word)
+        return {other: below[other] for other in above if other in below and above[other] == -below[other]}
+
     def nearest(self, words):
         """A dict from these words to integers, each as near to 0 as all bounds and the integers before it allow."""
         highest, lowest = {ZERO: 0}, {ZERO: 0}
@@ -98,7 +105,7 @@ def _spread(limits, bounds, word):
         source = waiting[at]
         at += 1
         for target, bound, _ in bounds.get(source, []):
-            limit = limits[source] + bound
-            if target not in limits or limit < limits[target]:
-                limits[target] = limit
+            lower = limits[source] + bound
+            if target not in limits or lower < limits[target]:
+                limits[target] = lower
                 waiting.append(target)

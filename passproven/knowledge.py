@@ -1,7 +1,8 @@
 """Knowledge of unknowns: what they are, whether they are values, and conditions on them."""
 
 from passproven.cases import words_of
-from passproven.solving import is_possible, solve
+from passproven.grounds import Ground
+from passproven.solving import solve
 from passproven.unknowns import symbolic, unknown_integer
 
 _PLAIN_SORTS = ("integer", "name", "address", "map")
@@ -18,6 +19,7 @@ class Knowledge:
         self.got = {}
         self.many = 0
         self._templates = None
+        self._ground = None
 
     def through(self, templates):
         """The same knowledge, looked at through templates, or plainly for None."""
@@ -70,41 +72,34 @@ class Knowledge:
 
     def allows(self, condition):
         """Whether a condition is possible."""
-        conditions = self._facts() + [condition]
-        return is_possible(self._told_of(_words_in(conditions)) + conditions)
+        return self._grounds().allows(condition)
+
+    def allows_node(self, u):
+        """Whether an unknown can be a node or a constant, for all that conditions say of it."""
+        return self._grounds().allows_node(word(u))
+
+    def certain(self, u):
+        """A dict from the words of the integers from which the distance of one is certain to this distance."""
+        return self._grounds().certain(word(u))
+
+    def prepared(self):
+        """The same knowledge, which answers many questions faster than one."""
+        if self._ground is not None:
+            return self
+        known = self._twin()
+        known._ground = self._grounds()
+        return known
 
     def solution(self):
         """The solution of all that is known, the unknowns in the order of their numbers; None if there is none."""
         facts = self._facts()
-        words = _words_in(facts)
-        for u in self.sorts:
-            if self.sorts[u] in _PLAIN_SORTS:
-                words[word(u)] = True
+        words = {name: True for condition in facts for name in words_of(condition)}
+        # Nodes and constants have no place in it, unless conditions speak of them.
+        told = [condition for condition in self._told() if condition[0] != "not" or condition[1][1] in words]
         order = {word(u): True for u in range(self.many)}
+        order.update({name: True for condition in told for name in words_of(condition)})
         order.update(words)
-        return solve(self._told_of(words) + facts, order=list(order))
-
-    def allows_node(self, u):
-        """Whether an unknown can be a node or a constant, for all that conditions say of it."""
-        facts = self._facts()
-        none = [("not", (sort, word(u))) for sort in _PLAIN_SORTS]
-        return word(u) not in _words_in(facts) or is_possible(self._told_of(_words_in(facts)) + facts + none)
-
-    def linked(self, u):
-        """A dict whose keys are the words of the unknowns that conditions link to an unknown, itself included.
-
-        It is empty if no condition speaks of the unknown.
-        """
-        lists = [words_of(condition) for condition in self._facts()]
-        found = {}
-        waiting = [word(u)]
-        while waiting:
-            name = waiting.pop()
-            for words in lists:
-                if name in words:
-                    waiting.extend([other for other in words if other not in found])
-                    found.update({other: True for other in words})
-        return found
+        return solve(told + facts, order=list(order))
 
     def looked(self, term):
         """What a symbolic term is looked at as."""
@@ -152,23 +147,19 @@ class Knowledge:
                     facts.append(fact)
         return facts
 
-    def _told_of(self, words):
-        """The list of the conditions that say of which sorts the unknowns of these words are."""
+    def _told(self):
+        """The list of the conditions that say of which sorts unknowns are."""
         told = []
         for u in sorted({**self.worths, **self.sorts}):
             sort = self.sorts.get(u)
-            if word(u) not in words:
-                continue
             if sort in _PLAIN_SORTS:
                 told.append((sort, word(u)))
             elif sort is not None or self.worths[u] is False:
                 told.extend([("not", (plain, word(u))) for plain in _PLAIN_SORTS])
         return told
 
-
-def _words_in(conditions):
-    """A dict whose keys are the words of conditions."""
-    return {name: True for told in conditions for name in words_of(told)}
+    def _grounds(self):
+        return Ground(self._told(), self._facts()) if self._ground is None else self._ground
 
 
 def word(u):

@@ -12,14 +12,14 @@ class Sameness:
         self._told = []
         self._added = []
 
-    def add(self, fact, reasons):
-        """Adds a fact: None, or the reasons why it is not possible."""
+    def tell(self, fact, reasons):
+        """Tells a fact: None, or the reasons why it is not possible."""
         head, one, other = fact
         if head == "alike":
             return self._join(one, other, reasons)
         if head == "apart":
             return self._part(one, other, reasons)
-        return self._tell(one, other, head == "holds", reasons)
+        return self._entry(one, other, head == "holds", reasons)
 
     def mark(self):
         """How many facts there are, for back."""
@@ -93,7 +93,7 @@ class Sameness:
         self._added.append(("apart", one, other))
         return None
 
-    def _tell(self, mapping, name, has, reasons):
+    def _entry(self, mapping, name, has, reasons):
         found = self.reached(name)
         for word, term, is_there, why in self._told:
             if word == mapping and is_there != has and term in found:

@@ -10,8 +10,8 @@ def solve(conditions, *, order=None, no_nodes=()):
     choice = first_choice(conditions, no_nodes)
     if choice is None:
         return None
-    words = [word for condition in conditions for word in words_of(condition)] if order is None else order
-    words = [word for word in {word: True for word in words} if word in choice.sorts]
+    first = {word: True for condition in conditions for word in words_of(condition)}
+    words = list(first) if order is None else [word for word in order if word in first]
     integers = choice.distances.nearest(_of_sort(choice, words, INTEGER))
     constants = {term: True for condition in conditions for term in constants_of(condition)}
     names = _settled(choice, _of_sort(choice, words, NAME), constants, _nth_name)

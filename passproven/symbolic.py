@@ -16,6 +16,7 @@ class TooLong(PassError):
 
 def step(language, known, term, kept):
     """What a step of a symbolic term does: value, stuck, blocked, or next with all that it makes."""
+    known = known.prepared()
     found = _place(language, known, term)
     if found is None:
         return ("value",)

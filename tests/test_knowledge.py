@@ -86,6 +86,7 @@ class Telling(unittest.TestCase):
         known = known.with_condition(("less", meta("u3"), meta("u1"))).with_condition(("has", "u4", name("a")))
         self.assertEqual(known.solution(), {"u0": name("b"), "u1": num(0), "u3": num(-1), "u4": ("map", (("a", num(0)),))})
         self.assertIsNone(known.with_condition(("less", meta("u1"), meta("u3"))).solution())
+        self.assertEqual(known.with_constant(2, True).with_node(2, "f", 3)[0].with_worth(5, False).solution(), known.solution())
         self.assertEqual(Knowledge().solution(), {})
 
 
