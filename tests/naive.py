@@ -179,9 +179,17 @@ def drawn_condition(dice, words):
     return ("not", condition) if dice.random() < 0.5 else condition
 
 
-def drawn_lists(seed, many, longest):
-    """Lists of conditions over few metavariables, always the same ones for a seed."""
+def drawn_lists(seed, many, longest, common=()):
+    """Lists of conditions over few metavariables, always the same ones for a seed.
+
+    common are conditions on a metavariable w that are added for each metavariable.
+    """
     dice = random.Random(seed)
     for _ in range(many):
         words = list("xyzvw")[:dice.randint(1, 5)]
-        yield words, [drawn_condition(dice, words) for _ in range(dice.randint(0, longest))]
+        conditions = [drawn_condition(dice, words) for _ in range(dice.randint(0, longest))]
+        yield words, conditions + [renamed(condition, word) for condition in common for word in words]
+
+
+def renamed(condition, word):
+    return tuple(renamed(part, word) if isinstance(part, tuple) else word if part == "w" else part for part in condition)

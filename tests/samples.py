@@ -9,6 +9,7 @@ CONSTRUCTORS = [
     ("seq", 2, "plain", [0]), ("cell", 1, "plain", [0]), ("load", 1, "plain", [0]), ("keep", 2, "plain", [0, 1]),
     ("out", 1, "plain", [0]), ("loop", 0, "plain", []), ("count", 1, "plain", [0]), ("stop", 0, "plain", []),
     ("grow", 1, "plain", [0]), ("twice", 1, "plain", [0]), ("quote", 1, "plain", []), ("first", 0, "plain", []),
+    ("three", 3, "plain", [1, 2, 0]),
 ]
 
 RULES = [
@@ -28,6 +29,7 @@ RULES = [
     ("twice", "(twice $v)", [], "", "(pair $v $v)"),
     ("quote", "(quote $x)", [], "", "(box $x)"),
     ("first", "first", [], "(read @0 $v)", "$v"),
+    ("three", "(three $x $y $z)", [], "", "(pair $x (pair $y $z))"),
 ]
 
 SIGNATURE = {name: many for name, many, _, _ in CONSTRUCTORS}
@@ -52,6 +54,7 @@ PROGRAMS = [
     "(pair (add 1 2) stop)", "(add 'a 1)", "(add 'no 1)", "(quote loop)", "(twice (s (add 1 1)))", "first",
     "(seq (cell (box loop)) first)", "(grow 0)", "(s (s (s (add (s 1) 1))))", "(add 999999999999999 1)",
     "(out 999999999999999)", "(pair (add 999999999999999 0) (add 999999999999998 1))", "(add -999999999999999 -1)",
+    "(pair 1 (s (swap (add 1 2) 3)))", "(three (add 1 2) (add 3 4) (add 5 6))", "(back (three 1 (s (out 2)) 3) (s 4))",
     "(cell (twice (twice (twice (twice (twice (twice (twice (twice 1)))))))))",
     "(twice (twice (twice (twice (twice (twice (twice (twice (twice 1)))))))))",
 ]

@@ -194,6 +194,15 @@ class Choices(Solving):
                 expected = naive.solve(conditions, order, no_nodes)
                 self.check(conditions, expected, order=order, no_nodes=no_nodes)
 
+    def test_against_all_choices_of_some_sorts(self):
+        # With fewer sorts, and with less room for integers and names, more choices contradict each other late.
+        no_integer, no_name, no_map = [no((sort, "w")) for sort in ("integer", "name", "map")]
+        room = (("less", meta("w"), num(2)), ("less", num(-2), meta("w")))
+        for common in ((no_integer,), (no_integer, no_name), (no_integer, no_map), (("integer", "w"),), room):
+            for words, conditions in naive.drawn_lists(5, 400, 9, common):
+                self.check(conditions, naive.solve(conditions))
+                self.check(conditions, naive.solve(conditions, words, words), order=words, no_nodes=words)
+
     def test_the_solution_makes_all_conditions_true(self):
         for words, conditions in naive.drawn_lists(2, 1500, 8):
             solution = solve(conditions)
