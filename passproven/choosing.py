@@ -29,7 +29,7 @@ class Choice:
         self.distances.back(distances)
         self.sameness.back(facts)
 
-    def take(self, case, reasons):
+    def choose(self, case, reasons):
         """Takes a case: None, or the reasons why it is not possible; it is then not taken."""
         mark = self.mark()
         blame = self._taken(case, reasons)
@@ -41,7 +41,7 @@ class Choice:
         """Whether one of these cases could be taken, too."""
         mark = self.mark()
         for case in cases:
-            if self.take(case, 0) is None:
+            if self.choose(case, 0) is None:
                 self.back(mark)
                 return True
         return False
@@ -88,7 +88,7 @@ def _begun(rows):
     """The choice of all cases that are the only ones of their rows, or None if it is not possible."""
     choice = Choice()
     for cases in rows:
-        if len(cases) == 1 and choice.take(cases[0], 0) is not None:
+        if len(cases) == 1 and choice.choose(cases[0], 0) is not None:
             return None
     return choice
 
@@ -121,7 +121,7 @@ def _takes_next(choice, cases, level, taken, blames):
     while taken[level] < len(cases):
         case = cases[taken[level]]
         taken[level] += 1
-        blame = choice.take(case, own)
+        blame = choice.choose(case, own)
         if blame is None:
             return True
         blames[level] = blames[level] | (blame & (own - 1))

@@ -18,7 +18,7 @@ def common_redex(language, first, second):
     if _constructor_of(one) != _constructor_of(other):
         return None
     sketch = Sketch(language, _constructor_of(one))
-    return sketch.term() if _applies(sketch, one) and _applies(sketch, other) else None
+    return sketch.redex() if _applies(sketch, one) and _applies(sketch, other) else None
 
 
 def first_redex(language, name):
@@ -114,7 +114,7 @@ def _redex_without(sketch, rules):
     # With few ways to fail ahead, the ways of the other rules are looked at only where they matter.
     search = Search(many > MOST_CASES)
     found = search.without(sketch, sorted(rules, key=_ways_to_fail)) if sketch.is_possible() else None
-    return None if found is None else found.term()
+    return None if found is None else found.redex()
 
 
 class Search:

@@ -16,37 +16,39 @@ class Ground:
             for word, sorts in allowed_sorts(condition):
                 self._sorts[word] = self._sorts.get(word, ANY_SORT) & sorts
         # Without conditions of several cases, all questions can be put to the only choice.
-        self._choice = only_choice(self._conditions(facts))
+        self._choice = only_choice(self._with_sorts(facts))
 
     def allows(self, condition):
         """Whether a further condition is possible."""
         if self._choice is None:
-            return is_possible(self._conditions(self._facts + [condition]))
+            return is_possible(self._with_sorts(self._facts + [condition]))
         sorts = {word: self._sorts.get(word, ANY_SORT) for word in words_of(condition)}
         return self._choice.allows(cases_of(condition, sorts))
 
     def allows_node(self, word):
         """Whether a metavariable can be a node."""
         if self._choice is None:
-            return is_possible(self._conditions(self._facts) + [("not", (sort, word)) for sort in SORTS[:NODE]])
+            return is_possible(self._with_sorts(self._facts) + [("not", (sort, word)) for sort in SORTS[:NODE]])
         return self._choice.allows([(((word, NODE),), ())])
 
     def certain(self, word):
         """A dict from the integers from which the distance of one is certain, words or ZERO, to this distance."""
         if self._choice is not None:
             return self._choice.distances.certain(word)
-        conditions = self._conditions(self._facts)
+        conditions = self._with_sorts(self._facts)
         solution = solve(conditions)
-        if solution is None or word not in solution:
+        if solution is None:
             return {}
         worths = {other: solution[other][1] for other in solution if solution[other][0] == "int"}
+        if word not in worths:
+            return {}
         worths[ZERO] = 0
         # A distance that is certain is that of any solution.
         distances = {other: worths[word] - worths[other] for other in worths}
         return {other: distances[other] for other in distances
                 if not is_possible(conditions + [_another_distance(word, other, distances[other])])}
 
-    def _conditions(self, facts):
+    def _with_sorts(self, facts):
         """The list of these conditions, and of those that say of which sorts their metavariables are."""
         words = {word: True for condition in facts for word in words_of(condition)}
         return [condition for condition in self._told if words_of(condition)[0] in words] + facts

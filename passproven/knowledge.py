@@ -92,10 +92,10 @@ class Knowledge:
 
     def solution(self):
         """The solution of all that is known, the unknowns in the order of their numbers; None if there is none."""
-        facts = self._facts()
+        facts = self._other_conditions()
         words = {name: True for condition in facts for name in words_of(condition)}
         # Nodes and constants have no place in it, unless conditions speak of them.
-        told = [condition for condition in self._told() if condition[0] != "not" or condition[1][1] in words]
+        told = [condition for condition in self._sort_conditions() if condition[0] != "not" or condition[1][1] in words]
         order = {word(u): True for u in range(self.many)}
         order.update({name: True for condition in told for name in words_of(condition)})
         order.update(words)
@@ -137,7 +137,7 @@ class Knowledge:
         known._templates = self._templates
         return known
 
-    def _facts(self):
+    def _other_conditions(self):
         """The list of the conditions, and of those that say that maps have the names under which something was got."""
         facts = list(self.conditions)
         for base in self.got:
@@ -147,7 +147,7 @@ class Knowledge:
                     facts.append(fact)
         return facts
 
-    def _told(self):
+    def _sort_conditions(self):
         """The list of the conditions that say of which sorts unknowns are."""
         told = []
         for u in sorted({**self.worths, **self.sorts}):
@@ -159,7 +159,7 @@ class Knowledge:
         return told
 
     def _grounds(self):
-        return Ground(self._told(), self._facts()) if self._ground is None else self._ground
+        return Ground(self._sort_conditions(), self._other_conditions()) if self._ground is None else self._ground
 
 
 def word(u):

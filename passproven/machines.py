@@ -22,11 +22,11 @@ class Machine:
 
     def waits(self):
         """The pairs (constructor, place) of the nodes that wait, the innermost one first."""
-        return tuple([(node[1], self._strict(node)[at]) for node, at in self._nodes()])
+        return tuple([(node[1], self._strict(node)[at]) for node, at in self._outer_nodes()])
 
     def state(self):
         """The state for which the machine stands."""
-        return self._stands_for(self.focus, self._nodes(), self.store, self.out)
+        return self._stands_for(self.focus, self._outer_nodes(), self.store, self.out)
 
     def end(self):
         """The word with which the machine stops here, or None."""
@@ -46,7 +46,7 @@ class Machine:
     def _strict(self, node):
         return self._language.constructor(node[1])[3]
 
-    def _nodes(self):
+    def _outer_nodes(self):
         return _listed(self._waiting)
 
     def _stands_for(self, focus, nodes, store, out):

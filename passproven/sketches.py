@@ -68,7 +68,7 @@ class Sketch:
         """Whether there is such a redex."""
         return first_choice(self._conditions, self._places_without_nodes()) is not None
 
-    def term(self):
+    def redex(self):
         """One of these redexes, or None if there is none."""
         solution = solve(self._conditions, no_nodes=self._places_without_nodes())
         return None if solution is None else self._built(_ROOT, solution)

@@ -94,6 +94,15 @@ class Orders(Asking):
         self.asks(("order", one(1), one(0, 3)), order, integers(2, *between), one(1), one(0, 3))
         self.assertEqual(order(integers(2, *between, apart), one(1), one(0, 3)), "equal")
 
+    def test_orders_that_are_left(self):
+        known = integers(2, ("not", ("equal", meta("u0"), num(5))), ("not", ("equal", meta("u1"), meta("u0"))))
+        self.assertEqual([answer for answer, _ in answers(LANGUAGE, known, ("order", one(0), integer(5)))], ["less", "greater"])
+        self.assertEqual([answer for answer, _ in answers(LANGUAGE, known, ("order", one(1), one(0)))], ["less", "greater"])
+        known = known.with_condition(("less", meta("u0"), num(6))).with_condition(("less", num(3), meta("u0")))
+        self.assertEqual(order(known, one(0), integer(4)), "equal")
+        self.asks(("order", one(1), integer(7)), order, known, one(1), total(3, (0, 1)))
+        self.assertEqual([answer for answer, _ in answers(LANGUAGE, known, ("order", one(1), integer(4)))], ["less", "greater"])
+
     def test_the_smallest_unknown_is_taken(self):
         known = integers(4, ("equal", meta("u3"), ("sum", "u2", 1)), ("equal", meta("u2"), ("sum", "u1", 1)))
         self.asks(("order", one(1), integer(8)), order, known, one(3), integer(10))
@@ -272,6 +281,10 @@ class Shapes(Asking):
     def test_shapes_that_conditions_leave(self):
         known = Knowledge().fresh(2)[0].with_condition(("equal", meta("u0"), meta("u1")))
         self.assertEqual([answer for answer, _ in answers(LANGUAGE, known, ("shape", 0))], ["integer", "name", "address"])
+        known = known.with_condition(("not", ("equal", meta("u0"), num(1)))).with_worth(0, True)
+        self.assertEqual([answer for answer, _ in answers(LANGUAGE, known, ("shape", 0))], ["integer", "name", "address"])
+        known = Knowledge().fresh(2)[0].with_worth(0, True).with_condition(("not", ("equal", meta("u0"), num(1))))
+        self.assertEqual(answers(LANGUAGE, known, ("shape", 0))[-1][0], "a value")
 
     def test_nothing_is_changed(self):
         known = integers(2, ("less", meta("u0"), num(9))).fresh(2)[0].with_sort(2, "map")

@@ -71,6 +71,16 @@ class Telling(unittest.TestCase):
             for other in ("u1", "u2", "u3"):
                 self.assertFalse(known.allows((sort, other)))
 
+    def test_conditions_of_several_cases(self):
+        known = some(3).with_sort(0, "integer").with_condition(("not", ("equal", meta("u0"), num(5))))
+        self.assertFalse(known.allows(("equal", meta("u0"), num(5))))
+        self.assertTrue(known.allows(("less", meta("u0"), num(5))))
+        self.assertTrue(known.allows(("less", num(5), meta("u0"))))
+        self.assertFalse(known.allows(("equal", meta("u0"), name("a"))))
+        known = known.with_condition(("equal", meta("u1"), meta("u2"))).with_sort(2, "address")
+        self.assertTrue(known.allows(("address", "u1")))
+        self.assertFalse(known.allows(("name", "u1")))
+
     def test_got(self):
         known = some(2).with_sort(0, "map")
         known, first = known.with_got(0, name("a"))
@@ -116,6 +126,9 @@ class Looking(unittest.TestCase):
         self.assertEqual(seen.looked(unknown(2)), ("map", 2, ()))
         self.assertEqual((seen.sort_of(unknown(4)), told(seen)), ("node", told(self.known)))
         self.assertEqual(seen.through(None).looked(unknown(4)), node("pair", unknown(6), unknown(7)))
+        templates = {"pair": (("a", "b"), node("join", meta("b"), meta("a")))}
+        seen = self.known.through(templates)
+        templates.clear()
         more, _ = seen.fresh(1)
         self.assertEqual(more.with_worth(5, True).looked(unknown(4))[1], "join")
 

@@ -191,6 +191,17 @@ class Places(Symbolic):
         whole, _ = known.with_worth(0, True).with_node(0, "pair", 2)
         self.assertEqual(step(LANGUAGE, whole, unknown(0), 2), ("value",))
 
+    def test_nodes_that_unknowns_in_unknowns_are(self):
+        known, _ = Knowledge().fresh(2)
+        known, _ = known.with_worth(0, False).with_node(0, "pair", 2)
+        known, _ = known.with_worth(2, True).with_worth(3, False).with_node(3, "s", 1)
+        known, _ = known.with_worth(4, False).with_node(4, "seq", 2)
+        after = node("swap", node("pair", unknown(2), node("s", unknown(6))), unknown(1))
+        known = known.with_worth(5, True).with_worth(1, True)
+        before = told(known)
+        self.assertEqual(step(LANGUAGE, known, node("swap", unknown(0), unknown(1)), 1)[:4], ("next", "seq", None, after))
+        self.assertEqual(told(known), before)
+
     def test_constants(self):
         known, _ = Knowledge().fresh(2)
         self.assertEqual(step(LANGUAGE, known.with_constant(0, True), unknown(0), 1), ("value",))
