@@ -3,6 +3,7 @@
 from passproven.asking import Ask, answers, held, is_same, order, shape
 from passproven.errors import PassError
 from passproven.knowledge import Knowledge
+from passproven.places import place_of
 from passproven.terms import metavariables
 from passproven.unknowns import added, integer, replaced, size, symbolic
 
@@ -17,7 +18,7 @@ class TooLong(PassError):
 def step(language, known, term, kept):
     """What a step of a symbolic term does: value, stuck, blocked, or next with all that it makes."""
     known = known.prepared()
-    found = _place(language, known, term)
+    found = place_of(language, known, term)
     if found is None:
         return ("value",)
     if found[0] == "blocked":
@@ -32,30 +33,6 @@ def step(language, known, term, kept):
             result = _made(known, rule[4], bindings)
             return ("next", rule[0], action, replaced(written, way, result), more)
     return ("stuck",)
-
-
-def _place(language, known, term):
-    """None for a value, blocked and an unknown, or redex and the way to it."""
-    if term[0] == "unknown" and known.worths.get(term[1]) is True:
-        return None
-    seen = known.looked(term)
-    if seen[0] == "unknown":
-        return _place_of_unknown(known, seen)
-    if seen[0] != "node":
-        return None
-    _, _, kind, strict = language.constructor(seen[1])
-    for place in strict:
-        found = _place(language, known, seen[2][place])
-        if found is not None:
-            return found if found[0] == "blocked" else ("redex", (place,) + found[1])
-    return ("redex", ()) if kind == "plain" else None
-
-
-def _place_of_unknown(known, term):
-    u = term[1]
-    if u not in known.worths:
-        raise Ask(("value", u))
-    return ("blocked", u)
 
 
 def _written_along(known, term, way):

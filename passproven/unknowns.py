@@ -1,6 +1,6 @@
 """Symbolic terms: terms in which unknowns stand for programs."""
 
-from passproven.terms import with_part
+from passproven.terms import children, parts_of, with_part
 
 
 def integer(n):
@@ -28,16 +28,28 @@ def times(one, number):
 
 def symbolic(term, unknowns):
     """The symbolic term of a term; unknowns tells what the metavariables stand for."""
-    head, worth = term[0], term[1]
+    # From the end on, the direct parts of a part are made before the part itself.
+    made = []
+    for part in list(parts_of(term))[::-1]:
+        start = len(made) - len(children(part))
+        inner = made[start:][::-1]
+        del made[start:]
+        made.append(_symbolic_part(part, inner, unknowns))
+    return made[0]
+
+
+def _symbolic_part(part, inner, unknowns):
+    """The symbolic term of a part of a term, with the symbolic terms of its direct parts."""
+    head, worth = part[0], part[1]
     if head == "int":
         return integer(worth)
     if head == "meta":
         return unknowns[worth]
     if head == "map":
-        return ("map", None, tuple([(("name", word), symbolic(entry, unknowns)) for word, entry in worth]))
+        return ("map", None, tuple([(("name", word), entry) for (word, _), entry in zip(worth, inner)]))
     if head == "node":
-        return ("node", worth, tuple([symbolic(part, unknowns) for part in term[2]]))
-    return term
+        return ("node", worth, tuple(inner))
+    return part
 
 
 def inner_terms(term):

@@ -1,4 +1,7 @@
-"""Short ways to write terms, and to look at knowledge, in tests."""
+"""Short ways to write terms and passes, and to look at knowledge, in tests."""
+
+from passproven.passes import check_pass
+from passproven.texts import read_term
 
 
 def num(n):
@@ -46,3 +49,28 @@ def told(known):
     """All attributes of knowledge, copied."""
     got = {base: list(rows) for base, rows in known.got.items()}
     return (dict(known.sorts), dict(known.worths), known.conditions, got, known.many)
+
+
+def signature_of(language):
+    return {constructor[0]: constructor[1] for constructor in language.constructors}
+
+
+def rows_of(source, target, *texts):
+    """A pass of rows that are given as texts: a constructor, parameters and a template, as in two a b: (pair $b $a)."""
+    rows = []
+    for text in texts:
+        head, template = text.split(":")
+        constructor, *parameters = head.split()
+        rows.append((constructor, tuple(parameters), read_term(signature_of(target), template)))
+    return check_pass(source, target, rows)
+
+
+def same_rows(source, target=None, **other):
+    """The pass that translates each constructor to the one of the same name; other are rows of other texts."""
+    rows = []
+    for constructor, many, _, _ in source.constructors:
+        words = "abcdef"[:many]
+        parts = " ".join(f"${word}" for word in words)
+        text = f"{' '.join(words)}: ({constructor} {parts})" if many else f": {constructor}"
+        rows.append(f"{constructor} {other.get(constructor, text)}")
+    return rows_of(source, target or source, *rows)
