@@ -17,6 +17,8 @@ class Ground:
                 self._sorts[word] = self._sorts.get(word, ANY_SORT) & sorts
         # Without conditions of several cases, all questions can be put to the only choice.
         self._choice = only_choice(self._with_sorts(facts))
+        # What was answered before: the distances of integers.
+        self._distances = {}
 
     def allows(self, condition):
         """Whether a further condition is possible."""
@@ -33,6 +35,11 @@ class Ground:
 
     def certain(self, word):
         """A dict from the integers from which the distance of one is certain, words or ZERO, to this distance."""
+        if word not in self._distances:
+            self._distances[word] = self._certain(word)
+        return self._distances[word]
+
+    def _certain(self, word):
         if self._choice is not None:
             return self._choice.distances.certain(word)
         conditions = self._with_sorts(self._facts)

@@ -1,12 +1,45 @@
-"""Judging in tests: each judgement is made twice and looked at by the steps of part C."""
+"""Judging in tests: languages, and judgements that are made twice and looked at by the steps of part C."""
 
 from passproven.constructors import is_program
 from passproven.faults import faults
 from passproven.instances import Extension
 from passproven.judging import judge
+from passproven.languages import read_language
 from passproven.passes import translate
 from passproven.stepping import first_state, is_large, step
 from passproven.terms import parts_of
+
+CONSTRUCTORS = [("num", 1, "value", [0]), ("add", 2, "plain", [0, 1]), ("seq", 2, "plain", [0]), ("cell", 1, "plain", [0]), ("load", 1, "plain", [0]),
+                ("keep", 2, "plain", [0, 1]), ("out", 1, "plain", [0]), ("put_on", 3, "plain", [0, 1, 2]), ("look", 2, "plain", [0, 1]),
+                ("stop", 0, "plain", []), ("if_", 3, "plain", [0]), ("loop", 0, "plain", [])]
+RULES = [
+    ("sum", "(add (num $x) (num $y))", ["(integer $x)", "(integer $y)"], "", "(num (plus $x $y))"),
+    ("seq", "(seq $x $y)", [], "", "$y"),
+    ("cell", "(cell $v)", [], "(new $v $n)", "$n"),
+    ("load", "(load $a)", ["(address $a)"], "(read $a $v)", "$v"),
+    ("keep", "(keep $a $v)", ["(address $a)"], "(write $a $v)", "$v"),
+    ("out", "(out $i)", ["(integer $i)"], "(put $i)", "(num $i)"),
+    ("put_on", "(put_on $m $k $v)", ["(map $m)", "(name $k)"], "", "(set $m $k $v)"),
+    ("look", "(look $m $k)", ["(has $m $k)"], "", "(get $m $k)"),
+    ("yes", "(if_ (num 0) $x $y)", [], "", "$x"),
+    ("no", "(if_ (num $n) $x $y)", ["(integer $n)"], "", "$y"),
+    ("loop", "loop", [], "", "loop"),
+]
+LANGUAGE = read_language(CONSTRUCTORS, RULES)
+
+
+def crowded_language(n, m, k, more=(), before=(), twice=False):
+    """A language in which the judge tries many cases of f; with rules of other constructors.
+
+    There are 31 + 15 m + 2 k cases if n is 0, and 36 + 3 n + 18 m + 2 k otherwise.
+    """
+    constructors = [("e", 1, "plain", [0]), ("f", 2, "plain", [0, 1]), ("g", 0, "plain", []), ("f2", 2, "plain", [0, 1]), ("z", 1, "plain", [0])]
+    rules = []
+    for word in ("f", "f2") if twice else ("f",):
+        rules += [(f"{word}x{at}", f"({word} $x $y)", [f"(less $x {10 * at})"], "", "0") for at in range(n)]
+        rules += [(f"{word}n{at}", f"({word} $x $y)", [f"(equal $x 'n{at})"], "", "0") for at in range(k)]
+        rules += [(f"{word}y{at}", f"({word} $x $y)", [f"(less $y {10 * at})"], "", "0") for at in range(m)]
+    return read_language(constructors, list(before) + rules + list(more))
 
 
 def told_of(parting):
