@@ -160,17 +160,17 @@ class Bench:
 
     def faults(self, name):
         """The list of the faults of a pass."""
-        source, target, rows = self._sides(name)
+        source, target, rows = self._with_languages(name)
         return faults(source, target, rows)
 
     def follow(self, name, program, *, most, steps):
         """How a program and its translation run side by side."""
-        source, target, rows = self._sides(name)
+        source, target, rows = self._with_languages(name)
         return follow(source, target, rows, program, most=most, steps=steps)
 
     def judge(self, name, *, most):
         """The judgement of a pass; one that was made of the same is made only once."""
-        source, target, rows = self._sides(name)
+        source, target, rows = self._with_languages(name)
         asked = (source.constructors, source.rules, target.constructors, target.rules, _by_places(rows), most)
         for told, judgement in self._judgements:
             if told == asked:
@@ -198,7 +198,7 @@ class Bench:
             raise NoPass(name)
         return self._passes[name]
 
-    def _sides(self, name):
+    def _with_languages(self, name):
         """The languages and the rows of a pass."""
         source, target, rows = self._pass(name)
         return (self._language(source), self._language(target), rows)

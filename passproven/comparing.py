@@ -27,7 +27,7 @@ def _compared_within(known, first, second):
     if sort != known.sort_of(second):
         return None
     if sort == "node":
-        if first[1] != second[1] or len(first[2]) != len(second[2]):
+        if first[1] != second[1]:
             return None
         return [(one, other, None) for one, other in zip(first[2], second[2])]
     if sort == "map":

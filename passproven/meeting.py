@@ -5,15 +5,6 @@ from passproven.terms import children, parts_of
 _ZERO = ("int", 0)
 
 
-class Found:
-    """A term with its size and height: one that is found can be so large that it cannot be walked through."""
-
-    def __init__(self, term, parts):
-        self.term = term
-        self.size = 1 + sum([part.size for part in parts])
-        self.height = max([part.height + 1 for part in parts], default=0)
-
-
 class Templates:
     """The templates of a pass, and what is found for their nodes.
 
@@ -32,7 +23,7 @@ class Templates:
         self._search()
 
     def first_pair(self):
-        """What is found for the first two templates that meet, or None."""
+        """Two terms with one translation, from the first two templates that meet; or None."""
         for first in range(len(self._rows)):
             for second in range(first + 1, len(self._rows)):
                 meeting = self._meeting(self._roots[first], self._roots[second])
@@ -91,7 +82,7 @@ class Templates:
                 links.append(_link(False, second[1], first, one))
             elif first[0] == "node" and second[0] == "node" and first[1] == second[1]:
                 waiting.extend(list(zip(self._inner[one], self._inner[other])))
-            elif first[0] == "node" or first != second:
+            elif first != second:
                 return None
         return links
 
@@ -105,7 +96,7 @@ class Templates:
         for is_first, word, leaf, number in meeting:
             own, others = (left, right) if is_first else (right, left)
             if number is None:
-                own[word] = Found(leaf, [])
+                own[word] = leaf
             else:
                 own[word], inner = self._found[number]
                 others.update(inner)
@@ -114,8 +105,7 @@ class Templates:
     def _made(self, row, bindings):
         """The node of the constructor of a row, with what its parameters stand for."""
         name, parameters, _ = self._rows[row]
-        parts = [bindings[word] for word in parameters]
-        return Found(("node", name, tuple([part.term for part in parts])), parts)
+        return ("node", name, tuple([bindings[word] for word in parameters]))
 
 
 def _link(is_first, word, part, number):

@@ -2,7 +2,7 @@
 
 from passproven.errors import TooLarge
 from passproven.meeting import Templates
-from passproven.passes import MOST_NESTED, MOST_PARTS, translate
+from passproven.passes import MOST_PARTS, translate
 from passproven.terms import children, parts_of, rebuild, size
 
 
@@ -49,7 +49,7 @@ def _sources_of_parameters(template, whole):
             bindings[wanted[1]] = source
         elif wanted[0] == "node" and part[0] == "node" and wanted[1] == part[1]:
             waiting.extend(list(zip(wanted[2], inner)))
-        elif wanted[0] == "node" or wanted != part:
+        elif wanted != part:
             return None
     return bindings
 
@@ -60,9 +60,8 @@ def two_sources(rows):
     if found is None:
         return None
     first, second = found
-    if first.size + second.size > MOST_PARTS or max(first.height, second.height) > MOST_NESTED:
-        raise TooLarge("two terms with one translation are too large")
-    translation = translate(rows, first.term)
-    if first.size + second.size + size(translation) > MOST_PARTS:
+    # The terms can be too large to be walked through, but no term has more parts or is higher than its translation.
+    translation = translate(rows, first)
+    if size(first) + size(second) + size(translation) > MOST_PARTS:
         raise TooLarge("two terms and their translation are too large")
-    return (first.term, second.term, translation)
+    return (first, second, translation)

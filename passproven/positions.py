@@ -20,7 +20,7 @@ class Session:
         self._sides = Sides(source, target, rows, most)
         self._limit = limit
         # What is known of the positions: the states with their images, the target steps, the rules of followed steps.
-        self._states = [self._sides.begun(program)]
+        self._states = [self._sides.start(program)]
         self._steps = [0]
         self._rules = []
         self._end = None

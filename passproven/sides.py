@@ -13,7 +13,7 @@ def translate_state(rows, state):
 def follow(source, target, rows, program, *, most, steps):
     """The tuple (end, followed steps, state, image) of a run side by side of at most so many steps."""
     sides = Sides(source, target, rows, most)
-    state, image = sides.begun(program)
+    state, image = sides.start(program)
     followed = []
     told = sides.after(state, image, steps > 0)
     while told[0] == "next":
@@ -32,7 +32,7 @@ class Sides:
         self._rows = tuple(rows)
         self._most = most
 
-    def begun(self, program):
+    def start(self, program):
         """The pair of the state with which a program begins and its translation."""
         state = first_state(program)
         return (state, translate_state(self._rows, state))
@@ -57,10 +57,10 @@ class Sides:
         if grows_large(following, goal):
             return ("large",)
         end, count = self._followed(image, goal)
-        return (end,) if count is None else ("next", rule, count, following, goal)
+        return ("next", rule, count, following, goal) if end is None else (end,)
 
     def _followed(self, image, goal):
-        """The pair of next and the number of the step with which the target comes to a goal, or of an end and None."""
+        """The pair of None and the number of the step with which the target comes to a goal, or of an end and None."""
         for count in range(1, self._most + 1):
             told = step(self._target, image)
             if told[0] != "next":
@@ -69,5 +69,5 @@ class Sides:
                 return ("large", None)
             image = told[1]
             if image == goal:
-                return ("next", count)
+                return (None, count)
         return ("parted", None)

@@ -177,6 +177,10 @@ class Languages(Benches):
         bench.language("a").rules = None
         self.assertEqual((bench.language("a").constructors, bench.language("a").rules), (A.constructors, ()))
         self.assertEqual(bench.run("a", node("a", num(1)), steps=1)[0], "value")
+        other = small("a")
+        bench.set_language("a", other)
+        other.rules = (1,)
+        self.assertEqual(bench.language("a").rules, ())
 
     def test_lists_may_be_changed(self):
         bench = self.filled()

@@ -368,6 +368,22 @@ class Entries(Judging):
         target = small(("(f $x $y)", [], "", "(h $y)"), ("(h $x)", [], "", "$x"))
         self.assertEqual(self.entries(source, target), (("met", 1),))
 
+    def test_goals_are_translated(self):
+        source = read_language([("f", 2, "plain", [0]), ("s", 1, "value", [0]), ("d", 0, "plain", [])],
+                               [("r", "(f $x $y)", ["(map $x)"], "(new {'a (s 1)} $n)", "(s (f {'b (s $n) 'c {'d (s $x)}} (f (set $x 'e (s (s 2))) d)))")])
+        target = read_language([("g", 2, "plain", [1]), ("t", 2, "value", [1]), ("e", 0, "plain", [])],
+                               [("r", "(g $y $x)", ["(map $x)"], "(new {'a (t 'q 1)} $n)",
+                                 "(t 'q (g (g e (set $x 'e (t 'q (t 'q 2)))) {'b (t 'q $n) 'c {'d (t 'q $x)}}))")])
+        rows = rows_of(source, target, "f a b: (g $b $a)", "s a: (t 'q $a)", "d: e")
+        entries = (("ask", ("shape", 0)), STUCK, STUCK, STUCK, ("met", 1), STUCK, STUCK)
+        self.assertEqual(self.entries(source, target, rows=rows), entries)
+        for word in ("(new {'a (t 'q 1)} $n)", "'b (t 'q $n)", "'d (t 'q $x)", "(t 'q 2)"):
+            rule = target.rules[0][:3]
+            text = ("(new {'a (t 'q 1)} $n)", "(t 'q (g (g e (set $x 'e (t 'q (t 'q 2)))) {'b (t 'q $n) 'c {'d (t 'q $x)}}))")
+            action, result = [part.replace(word, word.replace("'q", "'p")) for part in text]
+            other = read_language(target.constructors, [(rule[0], "(g $y $x)", ["(map $x)"], action, result)])
+            self.assertEqual(self.judged(source, other, rows).verdict, "no")
+
     def test_stuck_constructors(self):
         source = small(("(h $x)", ["(less $x $x)"], "", "$x"))
         self.assertEqual(self.judged(source, source).paper, (("f", (STUCK,)), ("g", (STUCK,)), ("h", (("ask", ("shape", 0)),) + (STUCK,) * 6)))
@@ -430,6 +446,22 @@ class Undecided(Judging):
                 self.assertEqual(self.judged(language, language).verdict, verdict)
         language = bulky_language(("put", num(1)), 400)
         self.assertEqual(self.judged(language, language).verdict, "yes")
+
+    def with_map(self, entries):
+        """A language whose f becomes a map, of which each entry counts twice among the parts of a symbolic term."""
+        result = ("map", tuple((f"w{n:03}", num(0)) for n in range(entries)))
+        return Language([("f", 1, "plain", [0])], [("r", node("f", meta("x")), (), None, result)])
+
+    def test_entries_of_maps_count_twice(self):
+        bare, small_one = read_language([("f", 1, "plain", [0])], []), self.with_map(1)
+        for entries, is_parting in ((199, True), (200, False)):
+            for source, target in ((self.with_map(entries), bare), (small_one, self.with_map(entries))):
+                if is_parting:
+                    self.assertEqual(self.judged(source, target).verdict, "no")
+                else:
+                    self.undecided("f", source, target)
+        self.assertEqual(self.judged(self.with_map(199), self.with_map(199)).verdict, "yes")
+        self.undecided("f", self.with_map(200), self.with_map(200))
 
     def test_the_target_alone(self):
         source, target = bulky_language("", 3), bulky_language("", 401)

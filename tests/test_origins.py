@@ -103,6 +103,16 @@ class Firsts(Sources):
         self.check(rows, node("pair", addr(3), num(1)), node("m", num(1)))
         self.check(rows, node("pair", addr(4), num(1)), node("j", addr(4), num(1)))
 
+    def test_names_are_not_constructors(self):
+        rows = a_pass("a: (lit 'end)", "b: (s end)", "c: end", "d x: (pair $x 'end)")
+        self.check(rows, node("lit", name("end")), node("a"))
+        self.check(rows, node("lit", node("end")), None)
+        self.check(rows, node("s", node("end")), node("b"))
+        self.check(rows, node("s", name("end")), None)
+        self.check(rows, node("pair", node("end"), node("end")), None)
+        self.assertIsNone(two_sources(a_pass("a: (lit 'end)", "b: (lit end)", "c: end")))
+        self.assertIsNone(two_sources(a_pass("b: (lit end)", "a: (lit 'end)", "c: end")))
+
     def test_a_first_template_whose_parts_have_no_source(self):
         rows = a_pass("one a: (s (s $a))", "two a: (s $a)", "lit_ a: (lit $a)")
         self.check(rows, chain(1, num(0)), node("two", num(0)))
@@ -260,6 +270,7 @@ class Pairs(Sources):
         self.pair(rows[::-1], ('node', 'num', (('int', 1),)), ('node', 'true', ()), ('node', 'lit', (('int', 1),)))
 
     def test_none(self):
+        self.assertIsNone(two_sources(a_pass("a: (pair 1 2)", "b: (pair 1 3)", "c: (pair 2 2)", "d: (pair 1 'a)")))
         for rows in (a_pass("a x: (s $x)", "b: end"), a_pass("a: (lit 1)", "b: (lit 2)", "c: (lit 'a)", "d: (lit @1)"), a_pass("a x: (lit (s $x))", "b: (lit 1)"),
                      a_pass("a x: (s (lit $x))", "b x: (s (s $x))", "c x: (s (pair $x 1))"), a_pass("a x y: (pair $x (s $y))", "b: (pair 1 2)"), a_pass("a: end"), ()):
             self.assertIsNone(two_sources(rows))

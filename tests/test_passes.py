@@ -79,7 +79,7 @@ class BadPasses(unittest.TestCase):
 
     def test_parameters(self):
         template = TWO[2]
-        for parameters in ((), ("a",), ("a", "b", "c"), ("a", "a"), ("a", "B"), ("a", ""), ("a", "1b"), ["a", "abcdefghijklm"], ("a", 1), ["_a", "b"]):
+        for parameters in ((), ("a",), ("a", "b", "c"), ("a", "a"), ("a", "a", "b"), ("a", "b", "b"), ("a", "B"), ("a", ""), ("a", "1b"), ["a", "abcdefghijklm"], ("a", 1), ["_a", "b"]):
             self.two("parameters", parameters, template)
         self.rejects(2, "parameters", (TWO, ONE, ("nil", ("a",), node("end"))))
 

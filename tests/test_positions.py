@@ -109,6 +109,13 @@ class Positions(Sessions):
         self.assertEqual(Session(source, target, rows, node("two", num(5))).end(), (0, "parted"))
 
 
+    def test_a_run_is_followed_only_as_far_as_it_is_asked_for(self):
+        session = self.session("(seq (down (num 1)) loop)", limit=10 ** 12)
+        session.go(3)
+        session.forward()
+        self.assertEqual((session.rule(), session.rule_at(20), session.search(["loop"]), session.where(9)), ("loop", "loop", 4, (5, 0)))
+
+
 class Going(Sessions):
     """I7"""
 
