@@ -202,6 +202,13 @@ class Places(Symbolic):
         self.assertEqual(step(LANGUAGE, known, node("swap", unknown(0), unknown(1)), 1)[:4], ("next", "seq", None, after))
         self.assertEqual(told(known), before)
 
+    def test_deep_terms(self):
+        known, _ = Knowledge().fresh(1)
+        deep = chain(400, node("seq", integer(1), unknown(0)))
+        self.assertEqual(step(LANGUAGE, known, deep, 0)[3], chain(400, unknown(0)))
+        self.assertEqual(step(LANGUAGE, known.with_worth(0, False), chain(400, unknown(0)), 0), ("blocked", 0))
+        self.assertEqual(step(LANGUAGE, known.with_worth(0, True), chain(400, unknown(0)), 0), ("value",))
+
     def test_constants(self):
         known, _ = Knowledge().fresh(2)
         self.assertEqual(step(LANGUAGE, known.with_constant(0, True), unknown(0), 1), ("value",))

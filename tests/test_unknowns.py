@@ -41,7 +41,8 @@ class Symbolic(unittest.TestCase):
         self.assertEqual(known, {"x": unknown(4), "y": node("g", integer(1)), "z": unknown(0)})
 
     def test_high_terms(self):
-        self.assertEqual(size(symbolic(chain(60), {})), 61)
+        for levels in (60, 900):
+            self.assertEqual(size(symbolic(chain(levels), {})), levels + 1)
 
 
 class Sizes(unittest.TestCase):
